@@ -138,7 +138,7 @@ def bring_up(held, other, now):
         return [3]
     held.since = other.since_for_copies(now)
     if is_same and missing == 0:
-        return [0]
+        return [0, here.serial, 0]
     if is_same and missing <= len(there.changes):
         for change in there.changes[-missing:]:
             here.undergo(change)

@@ -20,7 +20,8 @@ class TheList(unittest.TestCase):
                  7, 1, 1, 8,
                  7, 1, 1, 8,
                  4, 0, 1, 8]
-        self.assertEqual(answers(calls), [1, 3, 1, 1, 1, 2, 1, 2, 1, 3, 3, 1, 3, 1, 1, 0, 1, 0])
+        self.assertEqual(answers(calls), [1, 3, 1, 1, 1, 2, 1, 2, 1, 3, 3, 1, 3, 1, 3, 0, 3, 0,
+                                          1, 0])
 
     def test_a_refusal_is_its_number_alone(self):
         self.assertEqual(answers(drop(9, [])), [1, -2])
@@ -28,7 +29,7 @@ class TheList(unittest.TestCase):
 
     def test_what_transfer_answers_has_its_count_ahead(self):
         nine = [number(5)] * 9
-        self.assertEqual(answers(joined([copy(1, 0, 9, []), transfer(1, [])]))[2:], [1, 0])
+        self.assertEqual(answers(joined([copy(1, 0, 9, []), transfer(1, [])]))[2:], [3, 0, 1, 0])
         self.assertEqual(answers(joined([copy(1, 0, 9, []), number(5), transfer(1, [])]))[4:],
                          [3, 1, 2, 1])
         self.assertEqual(answers(joined([copy(1, 0, 9, []), *nine, transfer(1, [])]))[20:],

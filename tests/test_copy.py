@@ -34,7 +34,7 @@ class Copy(CallCase):
     def test_a_copy_of_a_copy(self):
         calls = [begin(3, 1, [0]), zone(0, 60, []), number(5), copy(1, 0, 9, []), number(6),
                  copy(2, 1, 9, []), transfer(2, []), transfer(1, []), transfer(2, [])]
-        self.assertEqual(told(*calls)[4:], [[3], [2], [0], [1, 3, 1], [1, 3, 1]])
+        self.assertEqual(told(*calls)[4:], [[3], [2], [0, 2, 0], [1, 3, 1], [1, 3, 1]])
 
     def test_it_is_since_now(self):
         net = played()

@@ -31,15 +31,16 @@ class TransferCase(CallCase):
 
 class NothingNew(TransferCase):
 
-    def test_it_answers_0_alone(self):
-        self.assert_brought_up([0], copy(1, 0, 9, []), transfer(1, []))
-        self.assert_brought_up([0], number(5), copy(1, 0, 9, []), transfer(1, []))
+    def test_it_answers_0_and_the_serial_and_0(self):
+        self.assert_brought_up([0, 1, 0], copy(1, 0, 9, []), transfer(1, []))
+        self.assert_brought_up([0, 2, 0], number(5), copy(1, 0, 9, []), transfer(1, []))
 
     def test_behind_another_transfer(self):
-        self.assert_brought_up([0], copy(1, 0, 9, []), number(5), transfer(1, []), transfer(1, []))
+        self.assert_brought_up([0, 2, 0], copy(1, 0, 9, []), number(5), transfer(1, []),
+                               transfer(1, []))
 
     def test_refused_changes_are_nothing_new(self):
-        self.assert_brought_up([0], copy(1, 0, 9, []), number(100), transfer(1, []))
+        self.assert_brought_up([0, 1, 0], copy(1, 0, 9, []), number(100), transfer(1, []))
 
 
 class JustTheChanges(TransferCase):
@@ -147,7 +148,7 @@ class AnOlderState(TransferCase):
     def test_both_ways_round(self):
         calls = [number(5), copy(1, 0, 9, []), drop(0, []), copy(0, 1, 9, []), transfer(0, []),
                  transfer(1, [])]
-        self.assertEqual(told(*calls)[-2:], [[0], [0]])
+        self.assertEqual(told(*calls)[-2:], [[0, 2, 0], [0, 2, 0]])
 
 
 class CopiesOfCopies(TransferCase):
@@ -156,7 +157,8 @@ class CopiesOfCopies(TransferCase):
              copy(3, 2, 9, [])]
 
     def test_only_what_the_copy_between_has_is_taken_over(self):
-        self.assert_brought_up([0], *self.CHAIN, number(5), transfer(2, []), server=2, origin=1)
+        self.assert_brought_up([0, 1, 0], *self.CHAIN, number(5), transfer(2, []), server=2,
+                               origin=1)
 
     def test_changes_are_handed_on(self):
         calls = self.CHAIN + numbers(1, 8) + [transfer(1, []), transfer(2, []), transfer(3, [])]
@@ -211,7 +213,7 @@ class SinceWhen(TransferCase):
     def test_a_copy_that_is_not_good_is_brought_up(self):
         net = played(copy(1, 0, 9, []))
         net.now = 100
-        self.assertEqual(play(net, transfer(1, [])), [[0]])
+        self.assertEqual(play(net, transfer(1, [])), [[0, 1, 0]])
         self.assertTrue(net.servers[1].holding_of(()).is_good(109))
         self.assertFalse(net.servers[1].holding_of(()).is_good(110))
 
@@ -254,14 +256,14 @@ class TransferRefused(TransferCase):
     def test_a_third_one_is_down(self):
         net = played(*three(), copy(1, 0, 9, []))
         net.servers[2].up = False
-        self.assertEqual(play(net, transfer(1, [])), [[0]])
+        self.assertEqual(play(net, transfer(1, [])), [[0, 1, 0]])
 
     def test_the_other_copy_is_not_good(self):
         net = played(*three(), copy(1, 0, 9, []), copy(2, 1, 50, []))
         net.now = 10
         self.assert_refused_on(-5, net, transfer(2, []))
         net.now = 9
-        self.assertEqual(play(net, transfer(2, [])), [[0]])
+        self.assertEqual(play(net, transfer(2, [])), [[0, 1, 0]])
 
     def test_the_one_told_first(self):
         net = played(copy(1, 0, 9, []))
@@ -306,8 +308,9 @@ class ManyCalls(CallCase):
         held = net.servers[server].holding_of(apex)
         other = net.servers[held.origin].holding_of(apex)
         self.assertEqual(plain_zone(held.zone), plain_zone(other.zone))
-        if answered[0] > 0:
-            self.assertEqual(answered[1], other.zone.serial)
+        self.assertEqual(answered[1], other.zone.serial)
+        if answered[0] == 0:
+            self.assertEqual(answered[2], 0)
 
     def test_whatever_was_ahead_the_copy_is_the_other_ones_zone(self):
         seen = {}
