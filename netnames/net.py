@@ -1,5 +1,7 @@
 """One list of calls in, one list of answers out."""
 
+from netnames.asking_calls import (answer_ask, answer_facts, answer_flush, answer_pass,
+                                   answer_query, answer_records, answer_set)
 from netnames.network import Net
 from netnames.zone_calls import (answer_add, answer_begin, answer_copy, answer_drop,
                                  answer_remove, answer_transfer, answer_zone)
@@ -80,6 +82,47 @@ def transfer_call(net, reader):
     return answer_transfer(net, server, apex)
 
 
+def set_call(net, reader):
+    server = reader.number()
+    up = reader.number()
+    return answer_set(net, server, up)
+
+
+def pass_call(net, reader):
+    length = reader.number()
+    return answer_pass(net, length)
+
+
+def query_call(net, reader):
+    cache = reader.number()
+    kind = reader.number()
+    name = reader.row()
+    return answer_query(net, cache, kind, name)
+
+
+def ask_call(net, reader):
+    server = reader.number()
+    kind = reader.number()
+    name = reader.row()
+    return answer_ask(net, server, kind, name)
+
+
+def records_call(net, reader):
+    server = reader.number()
+    apex = reader.row()
+    return answer_records(net, server, apex)
+
+
+def facts_call(net, reader):
+    cache = reader.number()
+    return answer_facts(net, cache)
+
+
+def flush_call(net, reader):
+    cache = reader.number()
+    return answer_flush(net, cache)
+
+
 CALLS = {
     1: begin_call,
     2: zone_call,
@@ -88,6 +131,13 @@ CALLS = {
     5: add_call,
     6: remove_call,
     7: transfer_call,
+    8: set_call,
+    9: pass_call,
+    10: query_call,
+    11: ask_call,
+    12: records_call,
+    13: facts_call,
+    14: flush_call,
 }
 
 

@@ -1,5 +1,6 @@
 """The net that a line of calls is about: its servers, its caches, and the time."""
 
+from netnames.caches import Cache
 from netnames.servers import Holding, Server
 from netnames.zones import Zone
 
@@ -17,7 +18,7 @@ class Net:
     def begin_anew(self, server_count, cache_count, roots):
         self.now = 0
         self.servers = [Server() for number in range(server_count)]
-        self.cache_count = cache_count
+        self.caches = [Cache() for number in range(cache_count)]
         self.roots = roots
         self.zones_made = 0
 
@@ -28,3 +29,6 @@ class Net:
 
     def has_server(self, server):
         return server < len(self.servers)
+
+    def has_cache(self, cache):
+        return cache < len(self.caches)

@@ -1,4 +1,6 @@
-"""Servers, and the zones that they have: their own ones, and copies."""
+"""Servers, the zones that they have, their own ones and copies, and what they tell."""
+
+from netnames.telling import refusal_to_tell, tell
 
 
 # A zone as one server has it. One of its own has no origin.
@@ -47,3 +49,22 @@ class Server:
     # Another server is given a zone's state only by one that's up, and of what is good.
     def can_hand_out(self, apex, now):
         return self.up and self.has_zone(apex) and self.holding_of(apex).is_good(now)
+
+    def longest_holding(self, name):
+        for length in range(len(name), -1, -1):
+            if self.has_zone(name[:length]):
+                return self.holding_of(name[:length])
+        return None
+
+    # Where the longest zone isn't good, a shorter one that is doesn't stand in for it.
+    def told_of(self, name, kind, now):
+        held = self.longest_holding(name)
+        if held is None or not held.is_good(now):
+            return refusal_to_tell(name)
+        return tell(held.zone, name, kind)
+
+    # To a cache a server that's down is as one that refuses.
+    def told_when_asked(self, name, kind, now):
+        if not self.up:
+            return refusal_to_tell(name)
+        return self.told_of(name, kind, now)

@@ -66,6 +66,12 @@ class Zone:
     def has(self, wanted):
         return any([record.is_same_as(wanted) for record in self.records])
 
+    def has_record_of(self, name):
+        return any([record.name == name for record in self.records])
+
+    def records_of(self, name, kind):
+        return [record for record in self.records if record.name == name and record.kind == kind]
+
     def is_full(self):
         return len(self.records) >= MOST_RECORDS
 

@@ -40,9 +40,50 @@ def transfer(server, apex):
     return [7, server] + row(apex)
 
 
+def switch(server, up):
+    return [8, server, up]
+
+
+def let_pass(length):
+    return [9, length]
+
+
+def query(cache, kind, name):
+    return [10, cache, kind] + row(name)
+
+
+def ask(server, kind, name):
+    return [11, server, kind] + row(name)
+
+
+def records(server, apex):
+    return [12, server] + row(apex)
+
+
+def facts(cache):
+    return [13, cache]
+
+
+def flush(cache):
+    return [14, cache]
+
+
 def number(label, value=7, server=0, apex=()):
     """Adds a number right below the apex."""
     return add(server, 0, 1, 60, apex, list(apex) + [label], [value])
+
+
+def tells(name, value=7, life=60, server=0, apex=()):
+    """Adds a number at the name."""
+    return add(server, 0, 1, life, apex, name, [value])
+
+
+def alias(name, other, life=60, server=0, apex=()):
+    return add(server, 0, 2, life, apex, name, other)
+
+
+def hand_on(name, other, life=60, server=0, apex=()):
+    return add(server, 0, 3, life, apex, name, [other])
 
 
 def joined(calls):
@@ -81,6 +122,115 @@ def played(*calls):
     return net
 
 
+APEXES = [[], [], [], [1], [1, 2], [2]]
+
+
+def drawn_name(draw):
+    return [draw.randint(1, 3) for turn in range(draw.randrange(4))]
+
+
+def drawn_record(draw, servers, lives):
+    """A record's sort, life, apex, name and value, as add has them."""
+    apex = draw.choice(APEXES)
+    name = apex + [draw.randint(1, 3) for turn in range(draw.randrange(3))]
+    if draw.randrange(5) == 0:
+        name = name + [0]
+    kind = draw.choice([1, 1, 2, 2, 3, 3])
+    value = {1: [draw.randrange(3)], 2: drawn_name(draw), 3: [draw.randrange(servers)]}[kind]
+    return (kind, draw.choice(lives), apex, name, value)
+
+
+def drawn_change(draw, servers, lives=(0, 1, 5, 20, 60)):
+    """A call that changes something, about few names, so that many are taken and few refused."""
+    chosen = draw.choices(["add", "remove", "zone", "drop", "copy", "transfer", "switch"],
+                          weights=[12, 3, 3, 1, 4, 3, 3])[0]
+    server = draw.randrange(servers)
+    if chosen == "add":
+        return add(server, 0, *drawn_record(draw, servers, lives))
+    if chosen == "remove":
+        kind, life, apex, name, value = drawn_record(draw, servers, lives)
+        return remove(server, 0, kind, apex, name, value)
+    if chosen == "zone":
+        return zone(server, draw.choice(lives), draw.choice(APEXES))
+    if chosen == "drop":
+        return drop(server, draw.choice(APEXES))
+    if chosen == "copy":
+        return copy(server, draw.randrange(servers), draw.randrange(60), draw.choice(APEXES))
+    if chosen == "transfer":
+        return transfer(server, draw.choice(APEXES))
+    return switch(server, draw.choice([0, 1, 1, 1]))
+
+
+def drawn_net(draw, servers, caches, changes, lives=(0, 1, 5, 20, 60)):
+    """A net with some zones, on which so many changes were tried; and the root's servers."""
+    roots = sorted(draw.sample(range(servers), draw.randint(1, servers)))
+    net = played(begin(servers, caches, roots), *[zone(server, 30, []) for server in roots])
+    play(net, *[drawn_change(draw, servers, lives) for turn in range(changes)])
+    return net, roots
+
+
+class Numbers:
+    """Takes an answer apart, number by number."""
+
+    def __init__(self, numbers):
+        self.left = list(numbers)
+
+    def take(self):
+        return self.left.pop(0)
+
+    def row(self):
+        return [self.take() for turn in range(self.take())]
+
+    def rows(self):
+        return [self.row() for turn in range(self.take())]
+
+
+def found(numbers):
+    """What query answers: what it is, how many were asked, how long good, names, what's told."""
+    given = Numbers(numbers)
+    parts = (given.take(), given.take(), given.take(), given.rows(), given.rows())
+    assert given.left == []
+    return parts
+
+
+def asked(numbers):
+    """What ask answers: what it is, the life, the name where it's handed on, its rows."""
+    given = Numbers(numbers)
+    what = given.take()
+    if what <= 0:
+        return (what, 0, None, [])
+    life = given.take()
+    place = given.row() if what == 5 else None
+    if what == 1:
+        return (what, life, place, given.rows())
+    return (what, life, place, [given.row()] if what in (4, 5) else [])
+
+
+def one_fact(given):
+    left, name, kind, what = given.take(), given.row(), given.take(), given.take()
+    if what == 1:
+        return (left, name, kind, what, given.rows())
+    return (left, name, kind, what, [given.row()] if what in (4, 5) else [])
+
+
+def facts_told(numbers):
+    """What facts answers: of each fact how long, the name, the sort, what it is, and its rows."""
+    given = Numbers(numbers)
+    parts = [one_fact(given) for turn in range(given.take())]
+    assert given.left == []
+    return parts
+
+
+def records_told(numbers):
+    """What records answers: the serial, if it's good; of each record name, sort, life, value."""
+    given = Numbers(numbers)
+    serial, good = given.take(), given.take()
+    parts = [(given.row(), given.take(), given.take(), given.row())
+             for turn in range(given.take())]
+    assert given.left == []
+    return (serial, good, parts)
+
+
 def plain_record(record):
     return (record.name, record.kind, record.value, record.life)
 
@@ -107,9 +257,15 @@ def plain_server(server):
     return (server.up, holdings)
 
 
+def plain_cache(cache):
+    return [(fact.telling.outcome, fact.telling.name, fact.kind, fact.telling.rows, fact.until)
+            for fact in cache.facts.values()]
+
+
 def plain_net(net):
     servers = [plain_server(server) for server in net.servers]
-    return (net.now, servers, net.cache_count, net.roots, net.zones_made)
+    caches = [plain_cache(cache) for cache in net.caches]
+    return (net.now, servers, caches, net.roots, net.zones_made)
 
 
 def zone_of(net, server, apex=()):

@@ -1,7 +1,7 @@
 """Call 1, begin, and how a net is ahead of it."""
 
-from calling import (BIG, CallCase, add, begin, copy, drop, number, play, played, told, transfer,
-                     zone, zone_of)
+from calling import (BIG, CallCase, add, ask, begin, copy, drop, facts, let_pass, number, played,
+                     query, records, switch, told, transfer, zone, zone_of)
 
 
 class AtTheBeginning(CallCase):
@@ -26,7 +26,13 @@ class AtTheBeginning(CallCase):
     def test_all_are_up_and_one_cache_asks_server_0(self):
         net = played()
         self.assertEqual([server.up for server in net.servers], [True, True])
-        self.assertEqual((net.now, net.cache_count, net.roots), (0, 1, (0,)))
+        self.assertEqual((net.now, len(net.caches), net.roots), (0, 1, (0,)))
+
+    def test_what_calls_show_of_it(self):
+        calls = [records(0, []), records(1, []), ask(0, 1, []), ask(1, 1, []), facts(0), facts(1),
+                 query(0, 1, [5]), switch(0, 1), switch(1, 1), let_pass(1)]
+        self.assertEqual(told(*calls), [[1, 1, 0], [-3], [2, 60], [0], [0], [-2],
+                                        [3, 1, 60, 0, 0], [-4], [-4], [1]])
 
 
 class Begin(CallCase):
@@ -47,7 +53,7 @@ class Begin(CallCase):
     def test_1_to_4_caches(self):
         for caches in range(1, 5):
             self.assert_told([2], begin(2, caches, [0]))
-            self.assertEqual(played(begin(2, caches, [0])).cache_count, caches)
+            self.assertEqual(len(played(begin(2, caches, [0])).caches), caches)
 
     def test_the_servers_of_the_root_are_those_told(self):
         for roots in ([0], [7], [0, 7], [2, 3, 5], list(range(8))):
@@ -55,12 +61,14 @@ class Begin(CallCase):
             self.assertEqual(played(begin(8, 1, roots)).roots, tuple(roots))
 
     def test_all_are_up_and_the_time_is_0(self):
-        net = played()
-        net.now = 77
-        net.servers[0].up = False
-        play(net, begin(2, 1, [0]))
+        net = played(let_pass(77), switch(0, 0), begin(2, 1, [0]))
         self.assertEqual(net.now, 0)
         self.assertEqual([server.up for server in net.servers], [True, True])
+
+    def test_the_caches_know_nothing_and_ask_the_servers_told(self):
+        calls = [query(0, 1, [5]), begin(3, 2, [1, 2]), zone(2, 44, []), facts(0), facts(1),
+                 query(0, 1, [5]), query(1, 1, [5])]
+        self.assertEqual(told(*calls)[3:], [[0], [0], [3, 2, 44, 0, 0], [3, 2, 44, 0, 0]])
 
     def test_it_makes_all_anew_in_the_middle(self):
         calls = [number(5), zone(1, 60, [3]), begin(2, 1, [1]), drop(0, []), drop(1, [3]),
@@ -102,3 +110,6 @@ class BeginRefused(CallCase):
         calls = [number(5), copy(1, 0, 9, []), begin(9, 1, [0]), begin(1, 5, [0]),
                  begin(1, 1, [1]), add(0, 2, 1, 1, [], [6], [1]), transfer(1, [])]
         self.assertEqual(told(*calls), [[2], [2], [-1], [-1], [-1], [3], [1, 3, 1]])
+        calls = [let_pass(5), query(0, 1, [7]), switch(1, 0), begin(9, 1, [0]), facts(0),
+                 ask(1, 1, []), let_pass(1)]
+        self.assertEqual(told(*calls)[3:], [[-1], [1, 60, 1, 7, 0, 3], [-6], [6]])
